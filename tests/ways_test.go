@@ -117,3 +117,89 @@ func TestPiecesAreToldToVariadicFunctions(t *testing.T) {
 		t.Error("no pieces are told to a variadic function")
 	}
 }
+
+// declared gives the functions of a file by their names.
+func declared(file *ast.File) map[string]*ast.FuncDecl {
+	found := map[string]*ast.FuncDecl{}
+	for _, d := range file.Decls {
+		if f, ok := d.(*ast.FuncDecl); ok {
+			found[f.Name.Name] = f
+		}
+	}
+	return found
+}
+
+// callsOf counts the calls of a function by its plain name.
+func callsOf(n ast.Node, name string) int {
+	calls := 0
+	ast.Inspect(n, func(n ast.Node) bool {
+		if call, ok := n.(*ast.CallExpr); ok {
+			if f, ok := call.Fun.(*ast.Ident); ok && f.Name == name {
+				calls++
+			}
+		}
+		return true
+	})
+	return calls
+}
+
+// recoversDeferred counts the deferred function literals that recover.
+func recoversDeferred(n ast.Node) int {
+	count := 0
+	ast.Inspect(n, func(n ast.Node) bool {
+		if d, ok := n.(*ast.DeferStmt); ok {
+			if f, ok := d.Call.Fun.(*ast.FuncLit); ok {
+				count += callsOf(f, "recover")
+			}
+		}
+		return true
+	})
+	return count
+}
+
+func TestWhatCannotBeReadIsAPanicRecoveredAtTheFace(t *testing.T) {
+	functions := declared(readSource(t).files["l02_packet.go"])
+	panics := 0
+	for name, f := range functions {
+		if ast.IsExported(name) && callsOf(f, "panic") > 0 {
+			t.Errorf("%s panics itself", name)
+		}
+		if callsOf(f, "recover") != recoversDeferred(f) || !ast.IsExported(name) && callsOf(f, "recover") > 0 {
+			t.Errorf("%s recovers elsewhere than in a deferred literal at the face", name)
+		}
+		panics += callsOf(f, "panic")
+	}
+	if panics == 0 {
+		t.Error("nothing is a panic")
+	}
+	for _, name := range []string{"ParsePacket", "UnwrapGre"} {
+		if recoversDeferred(functions[name]) != 1 {
+			t.Errorf("%s recovers nothing", name)
+		}
+	}
+}
+
+func TestHeadsAreArraysThatAreCopiedWhole(t *testing.T) {
+	s := readSource(t)
+	taken, given := 0, 0
+	isHead := func(field *ast.Field) int {
+		list, ok := s.info.Types[field.Type].Type.Underlying().(*types.Array)
+		if ok && list.Len() == 20 {
+			return 1
+		}
+		return 0
+	}
+	for _, f := range declared(s.files["l02_packet.go"]) {
+		for _, field := range f.Type.Params.List {
+			taken += isHead(field)
+		}
+		if f.Type.Results != nil {
+			for _, field := range f.Type.Results.List {
+				given += isHead(field)
+			}
+		}
+	}
+	if taken == 0 || given == 0 {
+		t.Errorf("heads are taken as arrays by %d functions and given by %d", taken, given)
+	}
+}
