@@ -203,3 +203,28 @@ func TestHeadsAreArraysThatAreCopiedWhole(t *testing.T) {
 		t.Errorf("heads are taken as arrays by %d functions and given by %d", taken, given)
 	}
 }
+
+func TestOrdersAreIteratorsThatAreRangedOver(t *testing.T) {
+	s := readSource(t)
+	functions := declared(s.files["l03_hash.go"])
+	isIterator := func(what ast.Expr) bool {
+		_, ok := s.info.Types[what].Type.Underlying().(*types.Signature)
+		return ok
+	}
+	given := 0
+	for _, f := range functions {
+		if f.Type.Results != nil && isIterator(f.Type.Results.List[0].Type) {
+			given++
+		}
+	}
+	ranged := 0
+	ast.Inspect(functions["Permutation"], func(n ast.Node) bool {
+		if loop, ok := n.(*ast.RangeStmt); ok && isIterator(loop.X) {
+			ranged++
+		}
+		return true
+	})
+	if given == 0 || ranged == 0 {
+		t.Errorf("%d functions give an order as an iterator, and Permutation ranges over %d", given, ranged)
+	}
+}
