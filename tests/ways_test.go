@@ -228,3 +228,58 @@ func TestOrdersAreIteratorsThatAreRangedOver(t *testing.T) {
 		t.Errorf("%d functions give an order as an iterator, and Permutation ranges over %d", given, ranged)
 	}
 }
+
+func TestSharesTakeTurnsByClosures(t *testing.T) {
+	s := readSource(t)
+	functions := declared(s.files["l04_table.go"])
+	given := 0
+	for _, f := range functions {
+		ast.Inspect(f, func(n ast.Node) bool {
+			back, ok := n.(*ast.ReturnStmt)
+			if !ok || len(back.Results) != 1 {
+				return true
+			}
+			if _, ok := back.Results[0].(*ast.FuncLit); ok {
+				given++
+			}
+			return true
+		})
+	}
+	called := 0
+	ast.Inspect(functions["FillTable"], func(n ast.Node) bool {
+		loop, ok := n.(*ast.RangeStmt)
+		if !ok {
+			return true
+		}
+		if list, ok := s.info.Types[loop.X].Type.Underlying().(*types.Slice); ok {
+			if _, ok := list.Elem().Underlying().(*types.Signature); ok {
+				called += callsOf(loop.Body, loop.Value.(*ast.Ident).Name)
+			}
+		}
+		return true
+	})
+	if given == 0 || called == 0 {
+		t.Errorf("%d closures are given, and FillTable calls %d that it ranges over", given, called)
+	}
+}
+
+func TestALabelLeavesTheRounds(t *testing.T) {
+	left := 0
+	ast.Inspect(declared(readSource(t).files["l04_table.go"])["FillTable"], func(n ast.Node) bool {
+		rounds, ok := n.(*ast.LabeledStmt)
+		if !ok {
+			return true
+		}
+		ast.Inspect(rounds, func(n ast.Node) bool {
+			leave, ok := n.(*ast.BranchStmt)
+			if ok && leave.Tok == token.BREAK && leave.Label != nil && leave.Label.Name == rounds.Label.Name {
+				left++
+			}
+			return true
+		})
+		return true
+	})
+	if left == 0 {
+		t.Error("no label leaves the rounds")
+	}
+}
