@@ -13,6 +13,8 @@ import (
 	"slices"
 	"strings"
 	"testing"
+
+	"loop.example/g00222/impl"
 )
 
 // source is the program as text, read once a test.
@@ -281,5 +283,92 @@ func TestALabelLeavesTheRounds(t *testing.T) {
 	})
 	if left == 0 {
 		t.Error("no label leaves the rounds")
+	}
+}
+
+// holdsFunctions tells whether a type is a function, or a struct with fields that are.
+func holdsFunctions(what types.Type) bool {
+	switch kind := what.Underlying().(type) {
+	case *types.Signature:
+		return true
+	case *types.Struct:
+		for field := range kind.Fields() {
+			if _, ok := field.Type().Underlying().(*types.Signature); ok {
+				return true
+			}
+		}
+	}
+	return false
+}
+
+// isFunctionTable tells whether a literal is a table of function values with a key for each row.
+func isFunctionTable(s source, table *ast.CompositeLit) bool {
+	var row types.Type
+	switch kind := s.info.Types[table].Type.Underlying().(type) {
+	case *types.Array:
+		row = kind.Elem()
+	case *types.Slice:
+		row = kind.Elem()
+	case *types.Map:
+		row = kind.Elem()
+	default:
+		return false
+	}
+	if !holdsFunctions(row) {
+		return false
+	}
+	for _, one := range table.Elts {
+		if _, ok := one.(*ast.KeyValueExpr); !ok {
+			return false
+		}
+	}
+	return true
+}
+
+func TestCommandsAreFunctionValuesInATableInAFunction(t *testing.T) {
+	s := readSource(t)
+	file := s.files["l05_config.go"]
+	tables := 0
+	for _, f := range declared(file) {
+		ast.Inspect(f, func(n ast.Node) bool {
+			if table, ok := n.(*ast.CompositeLit); ok && isFunctionTable(s, table) && len(table.Elts) == 9 {
+				tables++
+			}
+			return true
+		})
+	}
+	if tables != 1 {
+		t.Errorf("%d tables have a row for each kind of commands", tables)
+	}
+	for _, d := range file.Decls {
+		if one, ok := d.(*ast.GenDecl); ok && one.Tok == token.VAR {
+			t.Error("a variable stands outside of the functions")
+		}
+	}
+}
+
+func TestStagesAreConstantsWithIota(t *testing.T) {
+	counted := map[string]bool{}
+	for _, d := range readSource(t).files["l05_config.go"].Decls {
+		list, ok := d.(*ast.GenDecl)
+		if !ok || list.Tok != token.CONST {
+			continue
+		}
+		iotas := 0
+		ast.Inspect(list, func(n ast.Node) bool {
+			if name, ok := n.(*ast.Ident); ok && name.Name == "iota" {
+				iotas++
+			}
+			return true
+		})
+		for _, one := range list.Specs {
+			counted[one.(*ast.ValueSpec).Names[0].Name] = iotas > 0
+		}
+	}
+	if !counted["StageOn"] || !counted["StageDrain"] || !counted["StageOff"] {
+		t.Error("the stages are not counted by iota")
+	}
+	if impl.StageOn != 1 || impl.StageDrain != 2 || impl.StageOff != 3 {
+		t.Error("the stages have other numbers")
 	}
 }
