@@ -27,7 +27,9 @@ type source struct {
 
 func readSource(t *testing.T) source {
 	t.Helper()
-	s := source{token.NewFileSet(), map[string]*ast.File{}, map[string][]byte{}, &types.Info{Types: map[ast.Expr]types.TypeAndValue{}}}
+	s := source{token.NewFileSet(), map[string]*ast.File{}, map[string][]byte{}, &types.Info{
+		Types: map[ast.Expr]types.TypeAndValue{}, Selections: map[*ast.SelectorExpr]*types.Selection{},
+	}}
 	names, err := filepath.Glob("../impl/*.go")
 	if err != nil || len(names) == 0 {
 		t.Fatal("the program is not beside its tests", err)
@@ -370,5 +372,60 @@ func TestStagesAreConstantsWithIota(t *testing.T) {
 	}
 	if impl.StageOn != 1 || impl.StageDrain != 2 || impl.StageOff != 3 {
 		t.Error("the stages have other numbers")
+	}
+}
+
+// embeddingBytes tells whether a type is a struct that embeds bytes, or what keeps bytes.
+func embeddingBytes(what types.Type) bool {
+	whole, ok := what.Underlying().(*types.Struct)
+	if !ok {
+		return false
+	}
+	for field := range whole.Fields() {
+		if field.Embedded() && keepsBytes(field.Type()) {
+			return true
+		}
+	}
+	return false
+}
+
+func keepsBytes(what types.Type) bool {
+	switch kind := what.Underlying().(type) {
+	case *types.Slice:
+		return types.Identical(kind.Elem(), types.Typ[types.Byte])
+	case *types.Struct:
+		for field := range kind.Fields() {
+			if keepsBytes(field.Type()) {
+				return true
+			}
+		}
+	}
+	return false
+}
+
+func TestAReaderEmbedsItsBytesAndTheirMethodsArePromoted(t *testing.T) {
+	s := readSource(t)
+	promoted := 0
+	ast.Inspect(s.files["l06_codec.go"], func(n ast.Node) bool {
+		call, ok := n.(*ast.CallExpr)
+		if !ok {
+			return true
+		}
+		chosen, ok := call.Fun.(*ast.SelectorExpr)
+		if !ok || s.info.Selections[chosen] == nil {
+			return true
+		}
+		one := s.info.Selections[chosen]
+		owner := one.Recv()
+		if pointer, ok := owner.(*types.Pointer); ok {
+			owner = pointer.Elem()
+		}
+		if one.Kind() == types.MethodVal && len(one.Index()) > 1 && embeddingBytes(owner) {
+			promoted++
+		}
+		return true
+	})
+	if promoted == 0 {
+		t.Error("no reader embeds its bytes and has their methods promoted")
 	}
 }
