@@ -5,7 +5,6 @@ import (
 	"math/rand"
 	"reflect"
 	"slices"
-	"sync"
 	"testing"
 
 	"loop.example/g00222/impl"
@@ -46,22 +45,7 @@ func askCodec(q codecAsked) []any {
 }
 
 func TestCodecAnswersTheSameEachTime(t *testing.T) {
-	questions := codecQuestions()
-	var first [][]any
-	for _, q := range questions {
-		first = append(first, askCodec(q))
-	}
-	var all sync.WaitGroup
-	for range 4 {
-		all.Go(func() {
-			for i, q := range slices.Backward(questions) {
-				if !reflect.DeepEqual(askCodec(q), first[i]) {
-					t.Errorf("%v is answered in two ways", q)
-				}
-			}
-		})
-	}
-	all.Wait()
+	mustAnswerTheSame(t, codecQuestions(), askCodec)
 }
 
 func TestCodecLeavesItsArgumentsAsTheyWere(t *testing.T) {

@@ -4,7 +4,6 @@ import (
 	"math/rand"
 	"reflect"
 	"slices"
-	"sync"
 	"testing"
 
 	"loop.example/g00222/impl"
@@ -45,22 +44,7 @@ func askConfigs(q configAsked) []any {
 }
 
 func TestConfigsAnswerTheSameEachTime(t *testing.T) {
-	questions := configQuestions()
-	var first [][]any
-	for _, q := range questions {
-		first = append(first, askConfigs(q))
-	}
-	var all sync.WaitGroup
-	for range 4 {
-		all.Go(func() {
-			for i, q := range slices.Backward(questions) {
-				if !reflect.DeepEqual(askConfigs(q), first[i]) {
-					t.Errorf("%v is answered in two ways", q)
-				}
-			}
-		})
-	}
-	all.Wait()
+	mustAnswerTheSame(t, configQuestions(), askConfigs)
 }
 
 // roomyConfig copies a configuration into lists that have more room behind them, and names there, too.

@@ -1,9 +1,7 @@
 package tests
 
 import (
-	"reflect"
 	"slices"
-	"sync"
 	"testing"
 
 	"loop.example/g00222/impl"
@@ -25,22 +23,7 @@ func askHashes(n int64) []any {
 }
 
 func TestHashesAnswerTheSameEachTime(t *testing.T) {
-	numbers := hashNumbers()
-	var first [][]any
-	for _, n := range numbers {
-		first = append(first, askHashes(n))
-	}
-	var all sync.WaitGroup
-	for range 4 {
-		all.Go(func() {
-			for i, n := range slices.Backward(numbers) {
-				if !reflect.DeepEqual(askHashes(n), first[i]) {
-					t.Errorf("%d is answered in two ways", n)
-				}
-			}
-		})
-	}
-	all.Wait()
+	mustAnswerTheSame(t, hashNumbers(), askHashes)
 }
 
 func TestPermutationAnswersNewMemory(t *testing.T) {

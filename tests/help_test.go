@@ -5,6 +5,9 @@ import (
 	"encoding/binary"
 	"math"
 	"math/rand"
+	"reflect"
+	"slices"
+	"sync"
 	"testing"
 )
 
@@ -33,6 +36,26 @@ func spoil(list []byte) {
 	for i := range all {
 		all[i] ^= 0x5A
 	}
+}
+
+// mustAnswerTheSame asks all questions again, the last one first and several at a time, and wants what was answered at first.
+func mustAnswerTheSame[Q any](t *testing.T, questions []Q, ask func(Q) []any) {
+	t.Helper()
+	var first [][]any
+	for _, q := range questions {
+		first = append(first, ask(q))
+	}
+	var all sync.WaitGroup
+	for range 4 {
+		all.Go(func() {
+			for i, q := range slices.Backward(questions) {
+				if !reflect.DeepEqual(ask(q), first[i]) {
+					t.Errorf("%v is answered in two ways", q)
+				}
+			}
+		})
+	}
+	all.Wait()
 }
 
 // upTo gives count bytes that hang on the seed alone.

@@ -3,7 +3,6 @@ package tests
 import (
 	"bytes"
 	"reflect"
-	"sync"
 	"testing"
 
 	"loop.example/g00222/impl"
@@ -69,22 +68,7 @@ func mustNotParseWithin(t *testing.T, data []byte, cut int) {
 }
 
 func TestPacketsAnswerTheSameEachTime(t *testing.T) {
-	pieces := packetPieces()
-	var first [][]any
-	for _, data := range pieces {
-		first = append(first, askPackets(data))
-	}
-	var all sync.WaitGroup
-	for range 4 {
-		all.Go(func() {
-			for i := len(pieces) - 1; i >= 0; i-- {
-				if !reflect.DeepEqual(askPackets(pieces[i]), first[i]) {
-					t.Errorf("%v is answered in two ways", pieces[i])
-				}
-			}
-		})
-	}
-	all.Wait()
+	mustAnswerTheSame(t, packetPieces(), askPackets)
 }
 
 func TestNoLoadAndNilAreTheSame(t *testing.T) {

@@ -1,9 +1,7 @@
 package tests
 
 import (
-	"reflect"
 	"slices"
-	"sync"
 	"testing"
 
 	"loop.example/g00222/impl"
@@ -40,22 +38,7 @@ func askTables(q tableAsked) []any {
 }
 
 func TestTablesAnswerTheSameEachTime(t *testing.T) {
-	questions := tableQuestions()
-	var first [][]any
-	for _, q := range questions {
-		first = append(first, askTables(q))
-	}
-	var all sync.WaitGroup
-	for range 4 {
-		all.Go(func() {
-			for i, q := range slices.Backward(questions) {
-				if !reflect.DeepEqual(askTables(q), first[i]) {
-					t.Errorf("%v is answered in two ways", q)
-				}
-			}
-		})
-	}
-	all.Wait()
+	mustAnswerTheSame(t, tableQuestions(), askTables)
 }
 
 // roomy copies a list into memory that has more room behind it, filled with other.

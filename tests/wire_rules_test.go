@@ -3,7 +3,6 @@ package tests
 import (
 	"bytes"
 	"reflect"
-	"sync"
 	"testing"
 
 	"loop.example/g00222/impl"
@@ -49,22 +48,7 @@ func TestWireReadsNothingBehindTheEnd(t *testing.T) {
 }
 
 func TestWireAnswersTheSameEachTime(t *testing.T) {
-	pieces := wirePieces()
-	var first [][]any
-	for _, data := range pieces {
-		first = append(first, askWire(data))
-	}
-	var all sync.WaitGroup
-	for range 4 {
-		all.Go(func() {
-			for i := len(pieces) - 1; i >= 0; i-- {
-				if !reflect.DeepEqual(askWire(pieces[i]), first[i]) {
-					t.Errorf("%v is answered in two ways", pieces[i])
-				}
-			}
-		})
-	}
-	all.Wait()
+	mustAnswerTheSame(t, wirePieces(), askWire)
 }
 
 func TestNoBytesAndNilAreTheSame(t *testing.T) {
