@@ -429,3 +429,59 @@ func TestAReaderEmbedsItsBytesAndTheirMethodsArePromoted(t *testing.T) {
 		t.Error("no reader embeds its bytes and has their methods promoted")
 	}
 }
+
+// isStruct tells whether a type is the struct of a name.
+func isStruct(what types.Type, name string) bool {
+	named, ok := types.Unalias(what).(*types.Named)
+	if !ok || named.Obj().Name() != name {
+		return false
+	}
+	_, ok = named.Underlying().(*types.Struct)
+	return ok
+}
+
+func TestALogIsAGenericList(t *testing.T) {
+	s := readSource(t)
+	file := s.files["l07_log.go"]
+	generic := map[string]bool{}
+	for _, d := range file.Decls {
+		if list, ok := d.(*ast.GenDecl); ok && list.Tok == token.TYPE {
+			for _, one := range list.Specs {
+				spec := one.(*ast.TypeSpec)
+				_, isList := spec.Type.(*ast.ArrayType)
+				generic[spec.Name.Name] = spec.TypeParams != nil && isList
+			}
+		}
+	}
+	ofEntries := 0
+	for _, f := range declared(file) {
+		ast.Inspect(f, func(n ast.Node) bool {
+			one, ok := n.(*ast.IndexExpr)
+			if !ok || !s.info.Types[one].IsType() {
+				return true
+			}
+			if name, ok := one.X.(*ast.Ident); ok && generic[name.Name] && isStruct(s.info.Types[one.Index].Type, "Entry") {
+				ofEntries++
+			}
+			return true
+		})
+	}
+	if ofEntries == 0 {
+		t.Error("no generic list is one of entries")
+	}
+}
+
+func TestEntriesAreComparedAsStructs(t *testing.T) {
+	s := readSource(t)
+	compared := 0
+	ast.Inspect(s.files["l07_log.go"], func(n ast.Node) bool {
+		one, ok := n.(*ast.BinaryExpr)
+		if ok && (one.Op == token.EQL || one.Op == token.NEQ) && isStruct(s.info.Types[one.X].Type, "Entry") {
+			compared++
+		}
+		return true
+	})
+	if compared == 0 {
+		t.Error("no entries are compared as structs")
+	}
+}
