@@ -58,6 +58,11 @@ func mustAnswerTheSame[Q any](t *testing.T, questions []Q, ask func(Q) []any) {
 	all.Wait()
 }
 
+// told gives a code where something is so.
+func told(so bool, code int64) int64 {
+	return map[bool]int64{true: code}[so]
+}
+
 // upTo gives count bytes that hang on the seed alone.
 func upTo(seed int64, count int) []byte {
 	out := make([]byte, count)

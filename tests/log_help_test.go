@@ -132,7 +132,6 @@ func manyBadLogs(count int) [][]impl.Entry {
 // wantEntryFault asks for each fault by itself and takes the first one.
 func wantEntryFault(x impl.Entry) int64 {
 	off := func(n, least, most int64) bool { return n < least || n > most }
-	told := func(so bool, code int64) int64 { return map[bool]int64{true: code}[so] }
 	nothing := x.Cmd == cmdOf(0, 0, 0, 0, 0, 0)
 	return cmp.Or(
 		told(off(x.Term, 1, 100000) || off(x.Client, 0, 999) || off(x.Seq, 0, 1000000), impl.ErrRange),

@@ -485,3 +485,45 @@ func TestEntriesAreComparedAsStructs(t *testing.T) {
 		t.Error("no entries are compared as structs")
 	}
 }
+
+func TestMailsAreATypeSwitchOverAnInterface(t *testing.T) {
+	s := readSource(t)
+	switched := 0
+	ast.Inspect(s.files["l08_node.go"], func(n ast.Node) bool {
+		if one, ok := n.(*ast.TypeSwitchStmt); ok && len(one.Body.List) == 4 {
+			switched++
+		}
+		return true
+	})
+	if switched != 1 {
+		t.Errorf("%d type switches have a case for each kind of mails", switched)
+	}
+}
+
+func TestOnceThereIsASingleAssertionOfTwoValues(t *testing.T) {
+	s := readSource(t)
+	asserted, whereItHolds := 0, 0
+	ast.Inspect(s.files["l08_node.go"], func(n ast.Node) bool {
+		switch one := n.(type) {
+		case *ast.TypeAssertExpr:
+			if one.Type != nil {
+				asserted++
+			}
+		case *ast.IfStmt:
+			// What it gives is there only where the second value, which is all that is asked, is true.
+			given, ok := one.Init.(*ast.AssignStmt)
+			if !ok || len(given.Lhs) != 2 || one.Else != nil {
+				return true
+			}
+			asked, isName := one.Cond.(*ast.Ident)
+			second, isSecond := given.Lhs[1].(*ast.Ident)
+			if _, ok := given.Rhs[0].(*ast.TypeAssertExpr); ok && isName && isSecond && asked.Name == second.Name {
+				whereItHolds++
+			}
+		}
+		return true
+	})
+	if asserted != 1 || whereItHolds != 1 {
+		t.Errorf("there are %d assertions, and %d of them are of two values, used where they hold", asserted, whereItHolds)
+	}
+}
