@@ -124,12 +124,18 @@ func plainNodes() []impl.Node {
 
 // someNode gives a node without a fault.
 func someNode(random *rand.Rand) impl.Node {
-	n := impl.Node{Peers: 1 + random.Int63n(5), Log: someLog(random, []int{3, 8, 40}[random.Intn(3)])}
+	log := someLog(random, []int{3, 8, 40}[random.Intn(3)])
 	if random.Intn(5) == 0 {
-		n.Log = slices.Clone(fullLog()[:20])
+		log = slices.Clone(fullLog()[:20])
 	}
-	count := int64(len(n.Log))
-	n.Id, n.Voted, n.Commit = random.Int63n(n.Peers), random.Int63n(n.Peers+1)-1, random.Int63n(count+1)
+	peers := 1 + random.Int63n(5)
+	return someNodeOf(random, random.Int63n(peers), peers, log)
+}
+
+// someNodeOf gives a node without a fault that has a log.
+func someNodeOf(random *rand.Rand, id, peers int64, log []impl.Entry) impl.Node {
+	count := int64(len(log))
+	n := impl.Node{Id: id, Peers: peers, Log: log, Voted: random.Int63n(peers+1) - 1, Commit: random.Int63n(count + 1)}
 	n.Term = min(wantLast(n.Log)+random.Int63n(3), 100000)
 	if n.Term > 0 {
 		n.Role = random.Int63n(3)

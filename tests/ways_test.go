@@ -527,3 +527,33 @@ func TestOnceThereIsASingleAssertionOfTwoValues(t *testing.T) {
 		t.Errorf("there are %d assertions, and %d of them are of two values, used where they hold", asserted, whereItHolds)
 	}
 }
+
+func TestWhatNodesDoAreMethodValues(t *testing.T) {
+	s := readSource(t)
+	functions := declared(s.files["l09_cluster.go"])
+	for _, name := range []string{"DeliverMail", "TimeoutAt", "SpreadAt", "AskAt", "CrashAt"} {
+		handed := 0
+		ast.Inspect(functions[name], func(n ast.Node) bool {
+			call, ok := n.(*ast.CallExpr)
+			if !ok {
+				return true
+			}
+			for _, argument := range call.Args {
+				chosen, ok := argument.(*ast.SelectorExpr)
+				if ok && s.info.Selections[chosen] != nil && s.info.Selections[chosen].Kind() == types.MethodVal {
+					handed++
+				}
+			}
+			return true
+		})
+		if handed != 1 {
+			t.Errorf("%s hands %d method values on", name, handed)
+		}
+	}
+}
+
+func TestMailsAreCopied(t *testing.T) {
+	if callsOf(readSource(t).files["l09_cluster.go"], "copy") == 0 {
+		t.Error("nothing is copied")
+	}
+}
