@@ -557,3 +557,41 @@ func TestMailsAreCopied(t *testing.T) {
 		t.Error("nothing is copied")
 	}
 }
+
+// rangesOverIntegers counts the loops over numbers.
+func rangesOverIntegers(s source, n ast.Node) int {
+	count := 0
+	ast.Inspect(n, func(n ast.Node) bool {
+		if loop, ok := n.(*ast.RangeStmt); ok {
+			if kind, ok := s.info.Types[loop.X].Type.Underlying().(*types.Basic); ok && kind.Info()&types.IsInteger != 0 {
+				count++
+			}
+		}
+		return true
+	})
+	return count
+}
+
+func TestPairsOfLogsAreGoneThroughByRangesOverIntegersAndAGenericFunction(t *testing.T) {
+	s := readSource(t)
+	functions := declared(s.files["l10_audit.go"])
+	called := 0
+	for name, f := range functions {
+		// Each element is met with each one ahead of it.
+		if f.Type.TypeParams != nil && rangesOverIntegers(s, f) == 2 {
+			called += callsOf(functions["LogsMatch"], name)
+		}
+	}
+	if called != 1 {
+		t.Errorf("LogsMatch calls %d generic functions that range over integers", called)
+	}
+	plain := 0
+	for _, f := range functions {
+		if f.Type.TypeParams == nil {
+			plain += rangesOverIntegers(s, f)
+		}
+	}
+	if plain == 0 {
+		t.Error("no log is gone through by a range over an integer")
+	}
+}
