@@ -595,3 +595,40 @@ func TestPairsOfLogsAreGoneThroughByRangesOverIntegersAndAGenericFunction(t *tes
 		t.Error("no log is gone through by a range over an integer")
 	}
 }
+
+// isMapOf tells whether a type is a map whose values are the structs of a name.
+func isMapOf(what types.Type, name string) bool {
+	kind, ok := what.Underlying().(*types.Map)
+	return ok && isStruct(kind.Elem(), name)
+}
+
+func TestSessionsAreAMapToldInOrder(t *testing.T) {
+	s := readSource(t)
+	looked, kept, sorted := 0, 0, 0
+	ast.Inspect(s.files["l11_machine.go"], func(n ast.Node) bool {
+		switch one := n.(type) {
+		case *ast.IndexExpr:
+			if isMapOf(s.info.Types[one.X].Type, "Session") {
+				looked++
+			}
+		case *ast.AssignStmt:
+			if place, ok := one.Lhs[0].(*ast.IndexExpr); ok && isMapOf(s.info.Types[place.X].Type, "Session") {
+				kept++
+			}
+		case *ast.RangeStmt:
+			if _, ok := s.info.Types[one.X].Type.Underlying().(*types.Map); ok {
+				t.Errorf("%v: a map is gone through in an order that is none", s.set.Position(one.Pos()))
+			}
+		case *ast.CallExpr:
+			if name := types.ExprString(one.Fun); strings.HasPrefix(name, "slices.Sorted") && len(one.Args) > 0 {
+				if keys, ok := one.Args[0].(*ast.CallExpr); ok && types.ExprString(keys.Fun) == "maps.Keys" && isMapOf(s.info.Types[keys.Args[0]].Type, "Session") {
+					sorted++
+				}
+			}
+		}
+		return true
+	})
+	if looked == kept || kept == 0 || sorted == 0 {
+		t.Errorf("of %d sessions in a map %d are kept there, and %d times they are told in order", looked, kept, sorted)
+	}
+}
