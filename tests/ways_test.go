@@ -632,3 +632,28 @@ func TestSessionsAreAMapToldInOrder(t *testing.T) {
 		t.Errorf("of %d sessions in a map %d are kept there, and %d times they are told in order", looked, kept, sorted)
 	}
 }
+
+func TestVerdictsAreStructKeysOfAMapAndThoseOfThePastDeleted(t *testing.T) {
+	s := readSource(t)
+	kept, deleted := 0, 0
+	hasVerdicts := func(what ast.Expr) bool {
+		kind, ok := s.info.Types[what].Type.Underlying().(*types.Map)
+		return ok && isStruct(kind.Key(), "Verdict")
+	}
+	ast.Inspect(s.files["l12_health.go"], func(n ast.Node) bool {
+		switch one := n.(type) {
+		case *ast.AssignStmt:
+			if place, ok := one.Lhs[0].(*ast.IndexExpr); ok && hasVerdicts(place.X) {
+				kept++
+			}
+		case *ast.CallExpr:
+			if types.ExprString(one.Fun) == "delete" && hasVerdicts(one.Args[0]) {
+				deleted++
+			}
+		}
+		return true
+	})
+	if kept == 0 || deleted == 0 {
+		t.Errorf("verdicts are kept as keys in %d places, and deleted in %d", kept, deleted)
+	}
+}
