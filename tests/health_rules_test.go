@@ -2,7 +2,6 @@ package tests
 
 import (
 	"math/rand"
-	"reflect"
 	"slices"
 	"testing"
 
@@ -61,25 +60,11 @@ func TestHealthsAnswerTheSameEachTime(t *testing.T) {
 }
 
 func TestHealthsStayAsTheyWere(t *testing.T) {
-	for _, q := range healthQuestions() {
-		q = q.laid(shape{room: 2})
-		kept := q.laid(shape{whole: true})
-		askHealths(q)
-		if !reflect.DeepEqual(q.laid(shape{whole: true}), kept) {
-			t.Fatalf("%s, or the room behind its lists, was changed", short(q))
-		}
-	}
+	mustStayAsTheyWere(t, healthQuestions(), askHealths)
 }
 
 func TestHealthsAnswerTheSameHoweverTheirListsLie(t *testing.T) {
-	for _, q := range healthQuestions() {
-		first := askHealths(q.laid(shape{}))
-		for _, s := range []shape{{room: 2}, {empty: true}} {
-			if second := askHealths(q.laid(s)); !reflect.DeepEqual(first, second) {
-				t.Fatalf("%s is answered as %s and as %s", short(q), short(first), short(second))
-			}
-		}
-	}
+	mustAnswerHoweverListsLie(t, healthQuestions(), askHealths)
 }
 
 func TestCommandsOfVerdictsAreNewMemory(t *testing.T) {

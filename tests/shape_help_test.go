@@ -112,6 +112,35 @@ func lieApart(answer any, given ...any) bool {
 	return true
 }
 
+// layable is a question that can be asked with lists that lie in another way.
+type layable[Q any] interface{ laid(s shape) Q }
+
+// mustStayAsTheyWere asks all questions, and wants their lists, and the room behind these, to be what they were.
+func mustStayAsTheyWere[Q layable[Q]](t *testing.T, questions []Q, ask func(Q) []any) {
+	t.Helper()
+	for _, q := range questions {
+		q = q.laid(shape{room: 2})
+		kept := q.laid(shape{whole: true})
+		ask(q)
+		if !reflect.DeepEqual(q.laid(shape{whole: true}), kept) {
+			t.Fatalf("%s, or the room behind its lists, was changed", short(q))
+		}
+	}
+}
+
+// mustAnswerHoweverListsLie wants the same answer whether lists have room behind them, and whether those without elements are nil.
+func mustAnswerHoweverListsLie[Q layable[Q]](t *testing.T, questions []Q, ask func(Q) []any) {
+	t.Helper()
+	for _, q := range questions {
+		first := ask(q.laid(shape{}))
+		for _, s := range []shape{{room: 2}, {empty: true}} {
+			if second := ask(q.laid(s)); !reflect.DeepEqual(first, second) {
+				t.Fatalf("%s is answered as %s and as %s", short(q), short(first), short(second))
+			}
+		}
+	}
+}
+
 func TestShapesAreAsTheySay(t *testing.T) {
 	n := followerOf(0, 5, -1, 1, 2)
 	same := func(a, b impl.Node) bool { return reflect.DeepEqual(bareNode(a), bareNode(b)) }

@@ -657,3 +657,37 @@ func TestVerdictsAreStructKeysOfAMapAndThoseOfThePastDeleted(t *testing.T) {
 		t.Errorf("verdicts are kept as keys in %d places, and deleted in %d", kept, deleted)
 	}
 }
+
+func TestAnUpdateThatCannotBeTakenIsAnErrorAskedByErrorsAs(t *testing.T) {
+	s := readSource(t)
+	functions := declared(s.files["l13_watch.go"])
+	isError := func(what ast.Expr) bool { return types.TypeString(s.info.Types[what].Type, nil) == "error" }
+	given := map[string]bool{}
+	for name, f := range functions {
+		if results := f.Type.Results; results != nil && isError(results.List[len(results.List)-1].Type) {
+			given[name] = true
+		}
+	}
+	asked := ""
+	for name, f := range functions {
+		ast.Inspect(f, func(n ast.Node) bool {
+			if call, ok := n.(*ast.CallExpr); ok && types.ExprString(call.Fun) == "errors.As" && isError(call.Args[0]) {
+				asked = name
+			}
+			return true
+		})
+	}
+	if asked == "" {
+		t.Fatal("no error is asked by errors.As")
+	}
+	// The faces ask so of what the inner functions give.
+	for _, face := range []string{"StepUpdate", "TakeUpdate", "TakeMany"} {
+		errs := 0
+		for name := range given {
+			errs += callsOf(functions[face], name)
+		}
+		if errs == 0 || callsOf(functions[face], asked) == 0 {
+			t.Errorf("%s meets %d errors, and asks for %d", face, errs, callsOf(functions[face], asked))
+		}
+	}
+}
