@@ -65,10 +65,10 @@ func wantSkip(name int64) int64 {
 // wantOrder goes on from place to place.
 func wantOrder(name int64) []int64 {
 	var list []int64
-	place := wantOffset(name)
+	place, skip := wantOffset(name), wantSkip(name)
 	for range 31 {
 		list = append(list, place)
-		place += wantSkip(name)
+		place += skip
 		if place >= 31 {
 			place -= 31
 		}

@@ -64,6 +64,8 @@ func strange(kind reflect.Type) reflect.Value {
 		}
 	case reflect.Int64:
 		value.SetInt(-9)
+	case reflect.Uint8:
+		value.SetUint(0xEE)
 	case reflect.Bool:
 		value.SetBool(true)
 	}

@@ -691,3 +691,40 @@ func TestAnUpdateThatCannotBeTakenIsAnErrorAskedByErrorsAs(t *testing.T) {
 		}
 	}
 }
+
+func TestWhatBecomesOfAPacketIsAMachineWithGoto(t *testing.T) {
+	states, jumps := map[string]int{}, 0
+	ast.Inspect(declared(readSource(t).files["l14_mux.go"])["ForwardMux"], func(n ast.Node) bool {
+		switch one := n.(type) {
+		case *ast.LabeledStmt:
+			states[one.Label.Name]++
+		case *ast.BranchStmt:
+			if one.Tok == token.GOTO {
+				jumps++
+			}
+		}
+		return true
+	})
+	// A packet is sent or dropped, and there is more than one way to one of these.
+	if len(states) < 2 || jumps <= len(states) {
+		t.Errorf("there are %d jumps to the states %v", jumps, states)
+	}
+}
+
+func TestTheCacheIsCleared(t *testing.T) {
+	s := readSource(t)
+	cleared := 0
+	ast.Inspect(s.files["l14_mux.go"], func(n ast.Node) bool {
+		call, ok := n.(*ast.CallExpr)
+		if !ok || types.ExprString(call.Fun) != "clear" {
+			return true
+		}
+		if list, ok := s.info.Types[call.Args[0]].Type.Underlying().(*types.Slice); ok && isStruct(list.Elem(), "Held") {
+			cleared++
+		}
+		return true
+	})
+	if cleared == 0 {
+		t.Error("no list of what is held is cleared")
+	}
+}
